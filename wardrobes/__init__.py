@@ -1,0 +1,1 @@
+"""Wardrobe: who wears what, so that hiring costs the least."""
