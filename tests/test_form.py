@@ -12,6 +12,10 @@ OWN_NAMES = set(
     "len range enumerate zip min max sum abs sorted reversed int str bool list tuple dict set frozenset isinstance "
     "ord repr any all divmod Exception ValueError KeyError IndexError LookupError ZeroDivisionError "
     "ArithmeticError OverflowError RuntimeError NotImplementedError StopIteration".split())
+OWN_METHODS = set(
+    "append clear copy count endswith extend find get index insert isalnum isalpha isdigit islower isspace isupper "
+    "items join keys ljust lower lstrip partition pop remove replace reverse rfind rjust rpartition rsplit rstrip "
+    "setdefault split splitlines startswith strip update upper values zfill bit_length".split())
 METHODS_WITH_UNDERSCORES = {"__init__", "__eq__", "__repr__", "__str__", "__len__"}
 WORDS_OUT = re.compile(
     r"\b(type|typing|typing_extensions|enum|Enum|IntEnum|StrEnum|Flag|IntFlag|Generic|Protocol|ABC|ABCMeta"
@@ -82,6 +86,23 @@ class Form(unittest.TestCase):
                     self.assertIsInstance(node.ctx, ast.Load, where)
             if isinstance(node, ast.arg):
                 self.assertFalse(hasattr(builtins, node.arg) or node.arg.startswith("_"), f"{name} {node.arg}")
+
+    def test_methods(self):
+        found = nodes()
+        written = {node.name for _, node in found if isinstance(node, ast.FunctionDef)}
+        for name, node in found:
+            if isinstance(node, ast.Call) and isinstance(node.func, ast.Attribute):
+                self.assertIn(node.func.attr, OWN_METHODS | written, f"{name}:{node.lineno}")
+
+    def test_no_name_is_bound_twice_at_the_top(self):
+        for name, text in sources():
+            bound = []
+            for node in ast.parse(text).body:
+                if isinstance(node, (ast.FunctionDef, ast.ClassDef)):
+                    bound.append(node.name)
+                if isinstance(node, ast.Assign):
+                    bound.append(node.targets[0].id)
+            self.assertEqual(len(bound), len(set(bound)), name)
 
 
 if __name__ == "__main__":

@@ -5,11 +5,16 @@ import io
 import unittest
 from unittest import mock
 
-from line import BEGINS, LARGEST, costume, joined, kind, need
+from line import BEGINS, BEST, LARGEST, PLAIN, check, costume, joined, kind, more, need
 from wardrobes.wardrobe import answers
 
 FILLED = [kind(10, 100000)] * 5 + [costume(3, 1000, 1000)] * 5 + [need(1000, 3, 1000)] * 7
 MIXED = [kind(1, 2), BEGINS, costume(), kind(LARGEST), kind(3, 4), costume(0, 5, 6), need(7, 0, 8), need(6), need(7)]
+MIXED_ANSWERS = [1, 0, 1, 0, 1, -2, 1, -1, 1, 0, 1, 0, 1, 0, 1, -1, 1, 1]
+ASKED = MIXED + [BEST, PLAIN, check(0, 1), check(0, 0), check(2, 2), check(), more(0, 1, 1), more(1), more(0, LARGEST)]
+ASKED_ANSWERS = MIXED_ANSWERS + [4, 4, 2, 0, 1, 3, 4, 0, 1, 1, 4, 3, -6, 1, 0, 1, -1, 1, -1, 4, 4, 1, 0, 1,
+                                 1, -2, 1, -1]
+LISTS = (FILLED, MIXED, ASKED, FILLED + [BEST, PLAIN, more(3), check(*[4] * 6), check(*[0] * 6), check(*[5] * 8)])
 
 
 def refuse(*given, **named):
@@ -25,17 +30,17 @@ class Unchanging(list):
 
 class HandedIn(unittest.TestCase):
     def test_the_list_is_the_same_afterwards(self):
-        for calls in (FILLED, MIXED):
+        for calls in LISTS:
             handed = joined(calls)
             answers(handed)
             self.assertEqual(handed, joined(calls))
 
     def test_the_list_is_not_changed_for_a_while(self):
-        for calls in (FILLED, MIXED):
+        for calls in LISTS:
             self.assertEqual(answers(Unchanging(joined(calls))), answers(joined(calls)))
 
     def test_what_is_given_back_is_a_new_list(self):
-        handed = joined(MIXED)
+        handed = joined(ASKED)
         first = answers(handed)
         self.assertIsNot(first, handed)
         kept = list(first)
@@ -47,7 +52,7 @@ class HandedIn(unittest.TestCase):
 
 class NothingIsKept(unittest.TestCase):
     def test_the_same_list_twice(self):
-        for calls in (FILLED, MIXED):
+        for calls in LISTS:
             handed = joined(calls)
             self.assertEqual(answers(handed), answers(handed))
 
@@ -58,6 +63,8 @@ class NothingIsKept(unittest.TestCase):
         self.assertEqual(answers(need(0)), [1, -2])
         answers(joined(FILLED))
         self.assertEqual(answers(joined([kind(), costume(), need(0)])), [1, 0, 1, 0, 1, 0])
+        answers(joined(FILLED))
+        self.assertEqual(answers(joined([BEST, PLAIN, check(), more()])), [2, 0, 1, 1, 0, 1, 0, 1, -2])
 
     def test_a_list_that_fails_leaves_nothing_behind(self):
         with contextlib.suppress(IndexError):
@@ -68,13 +75,13 @@ class NothingIsKept(unittest.TestCase):
 class NothingElseIsDone(unittest.TestCase):
     def test_nothing_is_printed_read_or_imported(self):
         printed = io.StringIO()
-        handed = joined(MIXED)
+        handed = joined(ASKED)
         with contextlib.redirect_stdout(printed), contextlib.redirect_stderr(printed), \
                 mock.patch("sys.stdin", None), mock.patch.object(builtins, "open", refuse), \
                 mock.patch.object(builtins, "input", refuse), mock.patch.object(builtins, "__import__", refuse):
             given = answers(handed)
         self.assertEqual(printed.getvalue(), "")
-        self.assertEqual(given, [1, 0, 1, 0, 1, -2, 1, -1, 1, 0, 1, 0, 1, 0, 1, -1, 1, 1])
+        self.assertEqual(given, ASKED_ANSWERS)
 
 
 if __name__ == "__main__":
